@@ -1,0 +1,1 @@
+"""Pays shaped: two tables of pays, their potentials and their least forms."""
