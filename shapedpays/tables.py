@@ -1,5 +1,7 @@
 """The calls on two tables of pays, answered one behind another."""
 
+from shapedpays.forms import Setting, all_zero, factor_between, fraction
+
 # By its number each call: its name, how many whole numbers it has, how many
 # of these (the first ones) tell a table, a place, an act and a next place,
 # and whether a row comes behind them.
@@ -30,6 +32,7 @@ CALLS = (
 NO_SUCH = 2
 NOT_BEGUN = 11
 NOT_FIT = 22
+NONE_THERE = 33
 TOO_MUCH = 75
 
 MOST_IN_ROW = 1000
@@ -48,18 +51,20 @@ def within(numbers, most):
     return True
 
 
-def common_part(a, b):
-    while b > 0:
-        rest = a % b
-        a = b
-        b = rest
-    return a
+def is_one_pay(row):
+    return len(row) == 1 and within(row, MOST_IN_ROW)
 
 
-def fraction(upper, lower):
-    """The two numbers of a fraction with nothing in common; lower is 1 or more."""
-    common = common_part(abs(upper), lower)
-    return [upper // common, lower // common]
+def yes_or_no(truth):
+    return [1] if truth else [0]
+
+
+def told_fractions(first, uppers, lower):
+    """A number, then a fraction for each of the uppers."""
+    told = [first]
+    for upper in uppers:
+        told.extend(fraction(upper, lower))
+    return told
 
 
 class Tables:
@@ -70,47 +75,38 @@ class Tables:
     """
 
     def __init__(self):
-        # No places stands for: nothing has begun yet.
-        self.places = 0
-        self.acts = 0
-        self.g = 0
-        self.h = 0
+        # No setting stands for: nothing has begun yet.
+        self.setting = None
         self.pays = []
 
     def begun(self):
-        return self.places > 0
+        return self.setting is not None
 
     def has(self, where):
-        limits = [2, self.places, self.acts, self.places]
+        limits = [2, self.setting.places, self.setting.acts, self.setting.places]
         for k in range(len(where)):
             if where[k] >= limits[k]:
                 return False
         return True
 
-    def spot(self, s, x, q):
-        return (s * self.acts + x) * self.places + q
-
-    def pay(self, t, s, x, q):
-        return self.pays[t][self.spot(s, x, q)]
+    def spot(self, where):
+        return self.setting.spot(where[1], where[2], where[3])
 
     def begin(self, n, m, g, h):
         if n < 2 or n > 4 or m < 1 or m > 3:
             return refused(NOT_FIT)
         if g < 1 or h <= g or h > 10:
             return refused(NOT_FIT)
-        size = n * m * n
-        self.places = n
-        self.acts = m
-        self.g = g
-        self.h = h
+        self.setting = Setting(n, m, g, h)
+        size = self.setting.size()
         self.pays = [[0] * size, [0] * size]
         return [size]
 
     def set_pay(self, where, row):
-        if len(row) != 1 or not within(row, MOST_IN_ROW):
+        if not is_one_pay(row):
             return refused(NOT_FIT)
         table = self.pays[where[0]]
-        k = self.spot(where[1], where[2], where[3])
+        k = self.spot(where)
         was = table[k]
         table[k] = row[0]
         return [0, was]
@@ -122,11 +118,15 @@ class Tables:
         return [0]
 
     def payis(self, where):
-        return [0, self.pay(where[0], where[1], where[2], where[3])]
+        return [0, self.pays[where[0]][self.spot(where)]]
 
     def copy_other(self, t):
         # A list of its own, for a later set changes one table alone.
         self.pays[t] = list(self.pays[1 - t])
+        return [0]
+
+    def swap(self):
+        self.pays = [self.pays[1], self.pays[0]]
         return [0]
 
     def take_bounded(self, t, pays):
@@ -136,51 +136,94 @@ class Tables:
         return [0]
 
     def shape(self, t, row):
-        if len(row) != self.places or not within(row, MOST_IN_ROW):
+        if len(row) != self.setting.places or not within(row, MOST_IN_ROW):
             return refused(NOT_FIT)
-        pays = []
-        for s in range(self.places):
-            for x in range(self.acts):
-                for q in range(self.places):
-                    # The potentials are h times the row, so that counting
-                    # one g by h leaves a whole number, g times the row's.
-                    more = self.g * row[q] - self.h * row[s]
-                    pays.append(self.pay(t, s, x, q) + more)
-        return self.take_bounded(t, pays)
+        return self.take_bounded(t, self.setting.shaped(self.pays[t], row))
 
     def scale(self, t, c):
         if c < 1 or c > MOST_FACTOR:
             return refused(NOT_FIT)
         return self.take_bounded(t, [c * pay for pay in self.pays[t]])
 
-    def own_potential(self, t, s):
-        stay = self.pay(t, s, 0, s)
-        return fraction(-stay * self.h, self.h - self.g)
-
-    def least_pay(self, t, s, x, q):
-        # All over h less g: the own potential of s, and that of q counted
-        # g by h, are then whole, and only the end is made a fraction.
-        lower = self.h - self.g
-        own = -self.pay(t, s, 0, s) * self.h
-        own_counted = -self.pay(t, q, 0, q) * self.g
-        return fraction(self.pay(t, s, x, q) * lower + own - own_counted, lower)
-
     def potof(self, t):
-        told = [self.places]
-        for s in range(self.places):
-            told.extend(self.own_potential(t, s))
-        return told
+        own = self.setting.own_potentials(self.pays[t])
+        return told_fractions(self.setting.places, own, self.setting.divisor())
 
     def least(self, where):
-        told = [0]
-        told.extend(self.least_pay(where[0], where[1], where[2], where[3]))
-        return told
+        pay = self.setting.least_pay(self.pays[where[0]], self.spot(where))
+        return told_fractions(0, [pay], self.setting.divisor())
 
     def leastrow(self, where):
-        told = [self.places]
-        for q in range(self.places):
-            told.extend(self.least_pay(where[0], where[1], where[2], q))
+        first = self.setting.spot(where[1], where[2], 0)
+        pays = self.setting.least_form(self.pays[where[0]])[first:first + self.setting.places]
+        return told_fractions(self.setting.places, pays, self.setting.divisor())
+
+    def is_trivial(self, table):
+        return all_zero(self.setting.least_form(table))
+
+    def trivial(self, t):
+        return yes_or_no(self.is_trivial(self.pays[t]))
+
+    def apart(self):
+        """Table 1 less table 0, pay by pay.
+
+        Own potentials, least forms and what paths pay are sums of pays, each
+        one times a fixed number. So those of this table are those of table 1
+        less those of table 0, and it tells all of how the tables differ.
+        """
+        return [self.pays[1][k] - self.pays[0][k] for k in range(self.setting.size())]
+
+    def alike(self):
+        return yes_or_no(self.is_trivial(self.apart()))
+
+    def potentials(self):
+        table = self.apart()
+        if not self.is_trivial(table):
+            return refused(NONE_THERE)
+        # Shaping lays the potentials on a table's own ones, so they are
+        # those of table 1 less those of table 0.
+        own = self.setting.own_potentials(table)
+        return told_fractions(self.setting.places, own, self.setting.divisor())
+
+    def factor(self):
+        first = self.setting.least_form(self.pays[0])
+        second = self.setting.least_form(self.pays[1])
+        found = factor_between(first, second)
+        if found is None:
+            return refused(NONE_THERE)
+        return [0, found[0], found[1]]
+
+    def far(self):
+        distances = [abs(pay) for pay in self.setting.least_form(self.apart())]
+        most = max(distances)
+        told = told_fractions(0, [most], self.setting.divisor())
+        told.extend(self.setting.where(distances.index(most)))
         return told
+
+    def differ(self):
+        unlike = [pay for pay in self.setting.least_form(self.apart()) if pay != 0]
+        return [len(unlike)]
+
+    def ifset(self, where, row):
+        if not is_one_pay(row):
+            return refused(NOT_FIT)
+        k = self.spot(where)
+        other = self.pays[1 - where[0]][k]
+        table = self.apart()
+        table[k] = row[0] - other if where[0] == 1 else other - row[0]
+        return yes_or_no(self.is_trivial(table))
+
+    def told_path(self, table, row):
+        if not self.setting.is_path(row):
+            return refused(NOT_FIT)
+        pay = self.setting.path_pay(table, row)
+        return [0, pay[0], pay[1]]
+
+    def path(self, t, row):
+        return self.told_path(self.pays[t], row)
+
+    def gap(self, row):
+        return self.told_path(self.apart(), row)
 
 
 def split_calls(calls):
@@ -210,17 +253,39 @@ def change(tables, name, numbers, row):
         return tables.copy_other(numbers[0])
     if name == "shape":
         return tables.shape(numbers[0], row)
-    return tables.scale(numbers[0], numbers[1])
+    if name == "scale":
+        return tables.scale(numbers[0], numbers[1])
+    return tables.swap()
 
 
-def tell(tables, name, numbers):
+def tell_of_one(tables, name, numbers, row):
     if name == "payis":
         return tables.payis(numbers)
     if name == "potof":
         return tables.potof(numbers[0])
     if name == "least":
         return tables.least(numbers)
-    return tables.leastrow(numbers)
+    if name == "leastrow":
+        return tables.leastrow(numbers)
+    if name == "path":
+        return tables.path(numbers[0], row)
+    return tables.trivial(numbers[0])
+
+
+def tell_of_both(tables, name, numbers, row):
+    if name == "alike":
+        return tables.alike()
+    if name == "potentials":
+        return tables.potentials()
+    if name == "factor":
+        return tables.factor()
+    if name == "far":
+        return tables.far()
+    if name == "differ":
+        return tables.differ()
+    if name == "gap":
+        return tables.gap(row)
+    return tables.ifset(numbers, row)
 
 
 def answer(tables, number, numbers, row):
@@ -232,11 +297,11 @@ def answer(tables, number, numbers, row):
     # Of every call that may be refused so, this refusal stands first.
     if not tables.has(numbers[:CALLS[number][2]]):
         return refused(NO_SUCH)
-    if name in ("set", "fill", "copy", "shape", "scale"):
+    if name in ("set", "fill", "copy", "shape", "scale", "swap"):
         return change(tables, name, numbers, row)
-    if name in ("payis", "potof", "least", "leastrow"):
-        return tell(tables, name, numbers)
-    raise NotImplementedError(name)
+    if name in ("payis", "potof", "least", "leastrow", "path", "trivial"):
+        return tell_of_one(tables, name, numbers, row)
+    return tell_of_both(tables, name, numbers, row)
 
 
 def answers(calls):

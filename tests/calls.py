@@ -45,6 +45,46 @@ def leastrow(t, s, x):
     return [9, t, s, x]
 
 
+def alike():
+    return [10]
+
+
+def potentials():
+    return [11]
+
+
+def factor():
+    return [12]
+
+
+def far():
+    return [13]
+
+
+def differ():
+    return [14]
+
+
+def path(t, *row):
+    return [15, t, len(row), *row]
+
+
+def gap(*row):
+    return [16, len(row), *row]
+
+
+def swap():
+    return [17]
+
+
+def ifset(t, s, x, q, *row):
+    return [18, t, s, x, q, len(row), *row]
+
+
+def trivial(t):
+    return [19, t]
+
+
 def pays_of(t, n, m):
     """The calls that read a whole table."""
     return [payis(t, s, x, q) for s in range(n) for x in range(m) for q in range(n)]

@@ -3,7 +3,8 @@
 import unittest
 
 from tests.calls import (
-    TEN_TO_30, ask, begin, copy, fill, last, least, leastrow, payis, potof, put, scale, shape, table,
+    TEN_TO_30, alike, ask, begin, copy, differ, factor, far, fill, gap, ifset, last, least, leastrow, path, payis,
+    potentials, potof, put, scale, shape, swap, table, trivial,
 )
 
 MOST = 4294967295
@@ -12,7 +13,8 @@ MOST = 4294967295
 OTHERS = [
     put(0, 0, 0, 0, 5), fill(0, 1, 2, 3, 4), payis(0, 0, 0, 0), copy(0), shape(0, 1, 2), scale(0, 2),
     potof(0), least(0, 0, 0, 0), leastrow(0, 0, 0),
-    [10], [11], [12], [13], [14], [15, 0, 3, 0, 0, 1], [16, 3, 0, 0, 1], [17], [18, 0, 0, 0, 0, 1, 5], [19, 0],
+    alike(), potentials(), factor(), far(), differ(), path(0, 0, 0, 1), gap(0, 0, 1), swap(), ifset(0, 0, 0, 0, 5),
+    trivial(0),
 ]
 
 
@@ -60,7 +62,8 @@ class BeforeBegin(unittest.TestCase):
             put(MOST, MOST, MOST, MOST), put(2, 0, 0, 0, 1, 2, 3, 4), fill(7), fill(0, *[-TEN_TO_30] * 50),
             payis(MOST, 0, 0, 0), copy(2), shape(0, 1, 2, 3, 4, 5, TEN_TO_30), shape(2), scale(2, 0),
             scale(0, MOST), potof(MOST), least(0, 4, 0, 0), leastrow(0, 0, 3),
-            [15, 2, 0], [16, 0], [18, 2, 9, 9, 9, 0], [19, 5],
+            path(2), path(0, *[MOST] * 15), gap(), gap(*[MOST] * 15), ifset(2, 9, 9, 9),
+            ifset(0, 0, 0, 0, *[TEN_TO_30] * 4), trivial(5), trivial(MOST),
         ]
         self.assertEqual(ask(*calls), [[-11]] * len(calls))
 

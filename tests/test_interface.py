@@ -5,18 +5,25 @@ import unittest
 from unittest import mock
 
 from shapedpays.tables import answers
-from tests.calls import begin, copy, fill, joined, least, leastrow, payis, potof, put, scale, shape
+from tests.calls import (
+    alike, begin, copy, differ, factor, far, fill, gap, ifset, joined, least, leastrow, path, payis, potentials, potof,
+    put, scale, shape, swap, trivial,
+)
 
 # Each of the calls, some of them refused, and a begin that comes again.
 MANY = joined([
     payis(0, 0, 0, 0), begin(1, 1, 1, 2), begin(2, 1, 2, 5), fill(0, 3, 10, 7, -4), put(0, 0, 0, 1, 11),
     put(0, 0, 0, 1), copy(1), shape(1, 1, -1), shape(1, 1), scale(0, 2), scale(0, 0), potof(0), least(0, 0, 0, 1),
-    leastrow(1, 1, 0), leastrow(1, 2, 0), begin(2, 2, 1, 2), payis(0, 0, 1, 0),
+    leastrow(1, 1, 0), leastrow(1, 2, 0), alike(), potentials(), factor(), far(), differ(), path(0, 0, 0, 1, 0, 1),
+    path(0, 0, 0), path(2), gap(0, 0, 1), gap(), swap(), ifset(0, 0, 0, 1, 5), ifset(0, 0, 0, 1), ifset(2, 0, 0, 0),
+    trivial(0), trivial(2), copy(0), shape(1, 2, 0), alike(), potentials(), begin(2, 2, 1, 2), payis(0, 0, 1, 0),
 ])
 TOLD = [
     1, -11, 1, -22, 1, 4, 1, 0, 2, 0, 10,
     1, -22, 1, 0, 1, 0, 1, -22, 1, 0, 1, -22, 5, 2, -10, 1, 40, 3, 3, 0, 20, 3,
-    5, 2, 47, 3, 0, 1, 1, -2, 1, 8, 2, 0, 0,
+    5, 2, 47, 3, 0, 1, 1, -2, 1, 0, 1, -33, 3, 0, 1, 2, 6, 0, 47, 3, 1, 0, 0, 1, 2, 3, 0, 94, 5,
+    1, -22, 1, -2, 3, 0, -18, 1, 1, -22, 1, 0, 1, 0, 1, -22, 1, -2,
+    1, 0, 1, -2, 1, 0, 1, 0, 1, 1, 5, 2, 10, 1, 0, 1, 1, 8, 2, 0, 0,
 ]
 
 
@@ -46,10 +53,24 @@ class Lists(unittest.TestCase):
     def test_numbers_of_a_row_are_no_calls(self):
         self.assertEqual(answers([0, 2, 1, 1, 2, 2, 0, 4, 0, 3, 1, 2, 3, 0, 0, 0, 1]), [1, 4, 1, 0, 2, 0, 3])
 
+        self.assertEqual(answers([0, 2, 1, 1, 2, 15, 0, 0, 16, 0, 18, 0, 0, 0, 0, 0, 17, 10]),
+                         [1, 4, 1, -22, 1, -22, 1, -22, 1, 0, 1, 1])
+
+    def test_each_call_by_its_number(self):
+        start = [0, 2, 1, 1, 3, 2, 0, 4, 5, -7, 2, 11, 2, 1, 4, 4, -7, -2, 8]
+        for call, told in (
+                ([10], [1, 1]), ([11], [5, 2, 3, 2, 9, 2]), ([12], [3, 0, 1, 1]), ([13], [6, 0, 0, 1, 0, 0, 0]),
+                ([14], [1, 0]), ([15, 1, 3, 1, 0, 0], [3, 0, -2, 1]), ([16, 3, 1, 0, 0], [3, 0, -4, 1]),
+                ([17], [1, 0]), ([18, 1, 0, 0, 1, 1, -7], [1, 1]), ([19, 1], [1, 0])):
+            self.assertEqual(answers(start + call), [1, 4, 1, 0, 1, 0] + told, call)
+            # What stands behind it is read from its end on.
+            self.assertEqual(answers(start + call + [14]), [1, 4, 1, 0, 1, 0] + told + [1, 0], call)
+
     def test_the_longest_rows(self):
         calls = [1, 0, 0, 0, 0, 4, 1, 2, 3, 4] + [2, 0, 50] + [1] * 50 + [5, 0, 6, 1, 2, 3, 4, 5, 6]
+        calls += [15, 0, 15] + [0] * 15 + [16, 15] + [0] * 15 + [18, 0, 0, 0, 0, 4, 1, 2, 3, 4]
         self.assertEqual(answers([0, 4, 3, 1, 2] + calls + [3, 0, 0, 0, 0]),
-                         [1, 48, 1, -22, 1, -22, 1, -22, 2, 0, 0])
+                         [1, 48, 1, -22, 1, -22, 1, -22, 1, -22, 1, -22, 1, -22, 2, 0, 0])
 
     def test_sixty_calls(self):
         calls = begin(4, 3, 9, 10) + fill(0, *[1000] * 48) * 59
